@@ -1,0 +1,1 @@
+"""lanternwork: checks and ciphers."""

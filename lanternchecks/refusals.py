@@ -1,0 +1,7 @@
+"""The numbers that refusals answer, and the bound that several calls share."""
+
+WRONG = -1
+TOO_MUCH = -7
+NOT_BEGUN = -9
+
+MOST_BYTES = 4000
