@@ -1,6 +1,6 @@
 """The calls of one line, read and answered one behind another."""
 
-from lanternchecks.single import crc, crc_join, field_mul, sum_join
+from lanternchecks.single import aes, crc, crc_join, field_mul, seal, step, sum_join, unseal
 from lanternchecks.under_way import Line
 
 CRC = 0
@@ -12,6 +12,15 @@ FIELD_MUL = 5
 SUM_JOIN = 6
 HASH_OPEN = 7
 HASH_PUT = 8
+HASH_GET = 9
+AES = 10
+STEP = 11
+BOX_OPEN = 12
+BOX_SHOWN = 13
+BOX_PUT = 14
+BOX_TAG = 15
+SEAL = 16
+UNSEAL = 17
 
 # At each call's number: how many whole numbers it has, then how many rows.
 SHAPES = (
@@ -24,6 +33,15 @@ SHAPES = (
     (2, 3),
     (0, 0),
     (0, 1),
+    (0, 0),
+    (1, 2),
+    (1, 2),
+    (1, 2),
+    (0, 1),
+    (0, 1),
+    (0, 1),
+    (0, 4),
+    (0, 5),
 )
 
 
@@ -70,16 +88,38 @@ def answer_of(line, call, numbers, rows):
         return crc(numbers[0], rows[0])
     if call == CRC_JOIN:
         return crc_join(numbers[0], numbers[1], numbers[2])
+    if call == FIELD_MUL:
+        return field_mul(rows[0], rows[1])
+    if call == SUM_JOIN:
+        return sum_join(numbers[0], numbers[1], rows[0], rows[1], rows[2])
+    if call == AES:
+        return aes(numbers[0], rows[0], rows[1])
+    if call == STEP:
+        return step(numbers[0], rows[0], rows[1])
+    if call == SEAL:
+        return seal(rows[0], rows[1], rows[2], rows[3])
+    if call == UNSEAL:
+        return unseal(rows[0], rows[1], rows[2], rows[3], rows[4])
+    return answer_under_way(line, call, numbers, rows)
+
+
+def answer_under_way(line, call, numbers, rows):
     if call == SUM_OPEN:
         return line.sum_open(rows[0])
     if call == SUM_PUT:
         return line.sum_put(rows[0])
     if call == SUM_GET:
         return line.sum_get()
-    if call == FIELD_MUL:
-        return field_mul(rows[0], rows[1])
-    if call == SUM_JOIN:
-        return sum_join(numbers[0], numbers[1], rows[0], rows[1], rows[2])
     if call == HASH_OPEN:
         return line.hash_open()
-    return line.hash_put(rows[0])
+    if call == HASH_PUT:
+        return line.hash_put(rows[0])
+    if call == HASH_GET:
+        return line.hash_get()
+    if call == BOX_OPEN:
+        return line.box_open(numbers[0], rows[0], rows[1])
+    if call == BOX_SHOWN:
+        return line.box_shown(rows[0])
+    if call == BOX_PUT:
+        return line.box_put(rows[0])
+    return line.box_tag(rows[0])

@@ -1,6 +1,6 @@
-"""SHA-256 under way, as FIPS 180-4 has it."""
+"""SHA-256, as FIPS 180-4 has it."""
 
-from lanternchecks.blocks import behind_blocks, whole_blocks
+from lanternchecks.blocks import behind_blocks, high_first, whole_blocks
 
 BLOCK = 64
 WORD = 0xFFFFFFFF
@@ -44,6 +44,22 @@ class Digest:
             self.words = compressed(self.words, block)
         self.rest = behind_blocks(waiting, BLOCK)
         self.size = self.size + len(data)
+
+    def hash_so_far(self):
+        # The rest is ended on a copy, as more bytes may follow.
+        words = self.words
+        for block in whole_blocks(self.rest + ending_of(self.size), BLOCK):
+            words = compressed(words, block)
+        found = []
+        for word in words:
+            found.extend(high_first(word, 4))
+        return found
+
+
+def ending_of(size):
+    """What stands behind a message of so many bytes, up to whole blocks."""
+    noughts = (BLOCK - 9 - size) % BLOCK
+    return [128] + [0] * noughts + high_first(8 * size, 8)
 
 
 def compressed(words, block):

@@ -1,6 +1,7 @@
 """The package keeps to its small part of Python, as far as a walk can see."""
 
 import ast
+import builtins
 import pathlib
 import re
 import unittest
@@ -126,6 +127,30 @@ class Form(unittest.TestCase):
                     self.assertRegex(name, r"\A[A-Za-z][A-Za-z0-9_]*\Z", path)
             for node in nodes_of(tree, ast.Name):
                 self.assertIn(node.id, own + BUILT_IN, (path, node.lineno))
+
+    def test_parameters_and_locals(self):
+        for path, tree in trees():
+            taken = [alias.name for node in nodes_of(tree, ast.ImportFrom) for alias in node.names]
+            taken += [node.name for node in nodes_of(tree, ast.ClassDef)] + dir(builtins)
+            for node in nodes_of(tree, ast.FunctionDef):
+                inner = [part.arg for part in nodes_of(node, ast.arg)]
+                inner += [part.id for part in nodes_of(node, ast.Name) if isinstance(part.ctx, ast.Store)]
+                self.assertEqual(set(inner) & set(taken), set(), (path, node.name))
+            self.assertEqual(set(bound_names(tree)) & set(dir(builtins)), set(), path)
+
+    def test_texts_and_powers(self):
+        for path, tree in trees():
+            for node in nodes_of(tree, ast.Constant):
+                self.assertFalse(isinstance(node.value, str) and "%" in node.value, (path, node.lineno))
+            for node in nodes_of(tree, ast.BinOp):
+                if isinstance(node.op, ast.Pow):
+                    self.assertIsInstance(node.right, ast.Constant, (path, node.lineno))
+
+    def test_values_are_given_through_a_local_name(self):
+        for path, tree in trees():
+            for node in nodes_of(tree, ast.Attribute):
+                if isinstance(node.ctx, ast.Store):
+                    self.assertIsInstance(node.value, ast.Name, (path, node.lineno))
 
     def test_methods_and_values(self):
         methods, values, read = [], [], []
